@@ -69,6 +69,25 @@ func TestStep(t *testing.T) {
 	}
 }
 
+// TestWays: of all cells at once what Near and Step tell of each.
+func TestWays(t *testing.T) {
+	for _, f := range []api.Field{bare(1, 1), bare(1, 12), bare(12, 1), bare(12, 12), read(t, ".#~^\n9~^#\n^.#~\n")} {
+		for _, flies := range []bool{false, true} {
+			beside, steps, err := field.Ways(f, flies)
+			if len(beside) != len(f.Ground) || len(steps) != len(f.Ground) || err != nil {
+				t.Fatalf("%d by %d: got %v, %v, %v", f.Wide, f.High, beside, steps, err)
+			}
+			for at := range f.Ground {
+				near, _ := field.Near(f, at)
+				step, _ := field.Step(f, at, flies)
+				if !slices.Equal(beside[at], near) || steps[at] != step {
+					t.Errorf("cell %d of %d by %d, flying %v: got %v, %d", at, f.Wide, f.High, flies, beside[at], steps[at])
+				}
+			}
+		}
+	}
+}
+
 // TestLine: C3, one cell, straight, across and steep, both ways, in a field of 5 columns and 4 rows.
 func TestLine(t *testing.T) {
 	for _, c := range []struct {

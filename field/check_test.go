@@ -150,7 +150,7 @@ type answer struct {
 	err  error
 }
 
-// calls are all calls that are handed a field and cells; Check and Print take no cell.
+// calls are all calls that are handed a field and cells; Check, Print and Ways take no cell.
 func calls(f api.Field, a, b, sight int) map[string]answer {
 	text, noText := field.Print(f)
 	near, noNear := field.Near(f, a)
@@ -158,6 +158,7 @@ func calls(f api.Field, a, b, sight int) map[string]answer {
 	flown, noFlown := field.Step(f, a, true)
 	line, noLine := field.Line(f, a, b)
 	seen, noSeen := field.Sees(f, a, b, sight)
+	beside, steps, noWays := field.Ways(f, false)
 	return map[string]answer{
 		"Print":       {text != "", noText},
 		"Near":        {len(near) > 0, noNear},
@@ -165,6 +166,7 @@ func calls(f api.Field, a, b, sight int) map[string]answer {
 		"Step flying": {flown != 0, noFlown},
 		"Line":        {len(line) > 0, noLine},
 		"Sees":        {seen, noSeen},
+		"Ways":        {len(beside) > 0 || len(steps) > 0, noWays},
 	}
 }
 
@@ -189,7 +191,7 @@ func TestCellThatIsNone(t *testing.T) {
 	for _, none := range []int{-1, 6, 7, 144, -6, api.MaxNumber, math.MaxInt, math.MinInt} {
 		for _, sight := range []int{5, 0, -1, api.MaxNumber + 1} {
 			for name, got := range calls(f, none, 2, sight) {
-				if name != "Print" && (got.some || plain.Told(got.err) != api.ErrNone) {
+				if name != "Print" && name != "Ways" && (got.some || plain.Told(got.err) != api.ErrNone) {
 					t.Errorf("%s of the cell %d, sight %d: got %v", name, none, sight, got)
 				}
 			}
