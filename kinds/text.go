@@ -5,6 +5,7 @@ import (
 	"strings"
 
 	"marchland/api"
+	"marchland/digits"
 )
 
 const (
@@ -94,18 +95,9 @@ func isMark(word, is string) bool { return word == is || word == isNot }
 
 func readNumbers(words []string) (n [8]int, ok bool) {
 	for i, word := range words {
-		if n[i], ok = readNumber(word); !ok {
+		if n[i], ok = digits.Read(word, mostDigits); !ok {
 			return n, false
 		}
 	}
 	return n, true
-}
-
-func readNumber(word string) (int, bool) {
-	if len(word) > mostDigits {
-		return 0, false
-	}
-	n, err := strconv.Atoi(word)
-	// Atoi takes more than may be written: what has a needless 0 or a + ahead comes out otherwise than it stood.
-	return n, err == nil && n >= 0 && strconv.Itoa(n) == word
 }
