@@ -47,6 +47,11 @@ func far(f api.Field, to int, flies bool) answer {
 	return answer{list: l, err: err}
 }
 
+func outward(f api.Field, from int, flies bool) answer {
+	l, err := path.From(f, from, flies)
+	return answer{list: l, err: err}
+}
+
 func next(f api.Field, from, to int, flies bool) answer {
 	cell, err := path.Next(f, from, to, flies)
 	return answer{cell: cell, err: err}
@@ -65,6 +70,7 @@ func reach(f api.Field, from, most int, flies bool) answer {
 func all(f api.Field, from, to, most int, flies bool) map[string]answer {
 	return map[string]answer{
 		"Far":   far(f, to, flies),
+		"From":  outward(f, from, flies),
 		"Next":  next(f, from, to, flies),
 		"Path":  way(f, from, to, flies),
 		"Reach": reach(f, from, most, flies),
@@ -96,6 +102,7 @@ func TestCellThatIsNone(t *testing.T) {
 			for at := range 6 {
 				for name, got := range map[string]answer{
 					"Far":       far(f, none, flies),
+					"From":      outward(f, none, flies),
 					"Next from": next(f, none, at, flies),
 					"Next to":   next(f, at, none, flies),
 					"Next both": next(f, none, none, flies),
@@ -160,7 +167,7 @@ func TestAnswersAreFresh(t *testing.T) {
 	}
 	again := all(f, 0, 5, 9, false)
 	f.Ground[0], f.Ore[5] = api.Rock, 9
-	for name, want := range map[string][]int{"Far": {3, 2, 1, 2, 1, 0}, "Path": {0, 3, 4, 5}, "Reach": {0, 1, 2, 3, 4, 5}} {
+	for name, want := range map[string][]int{"Far": {3, 2, 1, 2, 1, 0}, "From": {0, 2, 3, 1, 2, 3}, "Path": {0, 3, 4, 5}, "Reach": {0, 1, 2, 3, 4, 5}} {
 		if !slices.Equal(again[name].list, want) {
 			t.Errorf("%s: got %v, want %v", name, again[name].list, want)
 		}

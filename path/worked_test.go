@@ -83,6 +83,9 @@ func holds(t *testing.T, f api.Field, every int, flies bool) {
 			}
 			nextHolds(t, f, d, a, b, flies)
 		}
+		if from, err := path.From(f, a, flies); !slices.Equal(from, d[a]) || err != nil {
+			t.Fatalf("%v, flying %v: From %d: got %v, %v; want %v", f, flies, a, from, err, d[a])
+		}
 		for _, most := range []int{0, 1, 2, 3, 4, 7, 11, 20} {
 			reachHolds(t, f, d, a, most, flies)
 		}
