@@ -105,14 +105,14 @@ func TestCheckWrong(t *testing.T) {
 // TestCheckNames: K1, what is a name.
 func TestCheckNames(t *testing.T) {
 	for _, name := range []string{"a", "z", "aa", "az", "base", "fighter", "abcdefgh", "stuvwxyz", "zzzzzzzz"} {
-		if err := kinds.Check([]api.Kind{named(name)}); err != nil {
-			t.Errorf("%q: got %v", name, err)
+		if err := kinds.Check([]api.Kind{named(name)}); err != nil || !kinds.IsName(name) {
+			t.Errorf("%q: got %v, %v", name, err, kinds.IsName(name))
 		}
 	}
 	for _, name := range []string{"", "abcdefghi", strings.Repeat("a", 300), " ", "-", "A", "aB", "a b", " a", "a ",
 		"a\n", "\na", "a1", "1", "a-b", "a`", "a{", "é", "aé", "\xff", "a\xff", "a\x00", "\x00", "ａ", "abcdefg1", "1bcdefgh", "abcd_fgh"} {
-		if err := kinds.Check([]api.Kind{named(name)}); plain.Told(err) != api.ErrSyntax {
-			t.Errorf("%q: got %v", name, err)
+		if err := kinds.Check([]api.Kind{named(name)}); plain.Told(err) != api.ErrSyntax || kinds.IsName(name) {
+			t.Errorf("%q: got %v, %v", name, err, kinds.IsName(name))
 		}
 	}
 }
@@ -126,8 +126,8 @@ func TestCheckLetters(t *testing.T) {
 		}
 		one := string([]byte{byte(b)})
 		for _, name := range []string{one, one + "bcdefgh", "abcd" + one + "fgh", "abcdefg" + one} {
-			if err := kinds.Check([]api.Kind{named(name)}); plain.Told(err) != want {
-				t.Errorf("%q: got %v, want %v", name, err, want)
+			if err := kinds.Check([]api.Kind{named(name)}); plain.Told(err) != want || kinds.IsName(name) != (want == api.OK) {
+				t.Errorf("%q: got %v, %v; want %v", name, err, kinds.IsName(name), want)
 			}
 		}
 	}
